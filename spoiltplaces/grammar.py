@@ -1,6 +1,7 @@
 """Reads a text: the program that it tells, or its first row at fault."""
 
-from spoiltplaces.program import CALL, CHOICE, HANDED, NUMBER, OPERATION, Function, Program, Test, Word
+from spoiltplaces.program import AHEAD, CALL, CHOICE, HANDED, NUMBER, OPERATION
+from spoiltplaces.program import Function, Place, Program, Test, Word
 from spoiltplaces.signs import PARTS, is_name, is_number, rows_of
 
 NO_FAULT = 0
@@ -14,9 +15,6 @@ MOST_FUNCTIONS = 8
 MOST_TESTS = 4
 MOST_PLACES = 30
 MOST_TEST_WORDS = 20
-
-# Words ahead of a row's expression: fun or test, the name, K or the shapes, and =.
-AHEAD = 4
 
 ARGUMENTS = ("a", "b", "c")
 
@@ -73,8 +71,15 @@ def is_too_much(program, words):
 def functions_known(program, words):
     known = dict(program.functions)
     if words[0] == "fun":
-        known[words[1]] = Function(int(words[2]), len(program.code))
+        known[words[1]] = Function(tuple(words), len(program.code))
     return known
+
+
+def add_function(program, function, length):
+    number = len(program.functions)
+    program.functions[function.row[1]] = function
+    for which in range(length):
+        program.places.append(Place(function.start + which, number, which, function.many))
 
 
 def add_row(program, words, expression):
@@ -82,10 +87,9 @@ def add_row(program, words, expression):
     program.taken[words[1]] = True
     program.code.extend(expression)
     if words[0] == "fun":
-        program.functions[words[1]] = Function(int(words[2]), start)
-        program.places.extend(list(range(start, start + len(expression))))
+        add_function(program, Function(tuple(words), start), len(expression))
     else:
-        program.tests.append(Test(words[2], start))
+        program.tests.append(Test(tuple(words), start))
 
 
 # Takes a row into the program, or answers its fault and leaves the program as it was.

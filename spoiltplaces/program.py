@@ -1,5 +1,8 @@
 """What a program is made of, once its text is read."""
 
+# Words ahead of a row's expression: fun or test, the name, K or the shapes, and =.
+AHEAD = 4
+
 NUMBER = 0
 HANDED = 1
 OPERATION = 2
@@ -17,21 +20,33 @@ class Word:
         self.parts = []
 
 
+# Of a function or a test, row is the tuple of the words by which it is told.
 class Function:
-    def __init__(self, many, start):
-        self.many = many
+    def __init__(self, row, start):
+        self.row = row
+        self.many = int(row[2])
         self.start = start
 
 
 class Test:
-    def __init__(self, shapes, start):
-        self.shapes = shapes
+    def __init__(self, row, start):
+        self.row = row
+        self.shapes = row[2]
         self.start = start
 
 
+# Where in the code a place lies, its function's number, which word of that one's expression it is, and
+# how many are handed over there.
+class Place:
+    def __init__(self, position, function, which, many):
+        self.position = position
+        self.function = function
+        self.which = which
+        self.many = many
+
+
 # The words of all expressions lie in one list, code, row by row as they are told, so that its position
-# there is all that has to be known to come to a word; places says where in it each place lies. Names
-# of functions and tests alike are in taken.
+# there is all that has to be known to come to a word. Names of functions and tests alike are in taken.
 class Program:
     def __init__(self):
         self.code = []

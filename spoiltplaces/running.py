@@ -79,7 +79,7 @@ class Run:
         return self.results[0]
 
 
-def run_test(program, test, handed):
-    run = Run(program.code)
+def run_test(code, test, handed):
+    run = Run(code)
     run.go(test.start, handed)
     return run

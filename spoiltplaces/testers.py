@@ -6,10 +6,15 @@ WRITE = 0
 TEST = 1
 ALL = 2
 RUN = 3
+REACH = 4
+PLACE = 5
+SEES = 6
+UNSEEN = 7
+FEWEST = 8
 
-# For each call, from write to reach: how many numbers stand ahead of its row's (its own number, its whole
-# numbers, the row's count).
-HEADS = (2, 2, 1, 3, 2)
+# For each call, from write to touched: how many numbers stand ahead of its row's (its own number, its
+# whole numbers, the row's count).
+HEADS = (2, 2, 1, 3, 2, 2, 2, 1, 1, 1)
 
 
 def call_end(calls, at):
@@ -28,7 +33,17 @@ def answer_call(house, call):
         return house.all_tests()
     if call[0] == RUN:
         return house.run(call[1], call[3:])
-    return house.reach(call[1])
+    if call[0] == REACH:
+        return house.reach(call[1])
+    if call[0] == PLACE:
+        return house.place(call[1])
+    if call[0] == SEES:
+        return house.sees(call[1])
+    if call[0] == UNSEEN:
+        return house.unseen()
+    if call[0] == FEWEST:
+        return house.fewest()
+    return house.touched()
 
 
 def answers(calls):

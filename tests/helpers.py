@@ -35,6 +35,26 @@ def reach(k):
     return [4, k]
 
 
+def place(i):
+    return [5, i]
+
+
+def sees(i):
+    return [6, i]
+
+
+def unseen():
+    return [7]
+
+
+def fewest():
+    return [8]
+
+
+def touched():
+    return [9]
+
+
 def ask(*calls):
     """What each call answers, one list a call."""
     given = answers([number for call in calls for number in call])

@@ -18,6 +18,7 @@ METHODS = ("append clear copy count endswith extend find get index insert isalnu
            "isupper items join keys ljust lower lstrip partition pop remove replace reverse rfind rjust rpartition "
            "rsplit rstrip setdefault split splitlines startswith strip update upper values zfill bit_length").split()
 WALKED = ("zip", "enumerate", "reversed", "range")
+VIEWS = ("items", "keys", "values")
 WALKERS = ("list", "tuple", "dict", "sorted", "sum", "any", "all", "enumerate", "zip", "min", "max")
 NEVER = re.compile(r"\b(type|typing|typing_extensions|enum|Enum|IntEnum|StrEnum|Flag|IntFlag|Generic|Protocol|ABC|"
                    r"ABCMeta|namedtuple|NamedTuple|TypedDict|TYPE_CHECKING|abstractmethod)\b|dataclass|overload|"
@@ -148,6 +149,20 @@ class Language(unittest.TestCase):
             for node in ast.walk(tree):
                 if isinstance(node, ast.Call) and isinstance(node.func, ast.Name) and node.func.id in WALKED:
                     self.assertIn(node, granted, (name, node.lineno))
+                if isinstance(node, ast.Call) and isinstance(node.func, ast.Attribute) and node.func.attr in VIEWS:
+                    self.assertIn(node, granted, (name, node.lineno))
+
+    def test_kept_at_the_top(self):
+        for name, tree in self.trees():
+            bound = [node.targets[0].id for node in tree.body if isinstance(node, ast.Assign)]
+            bound += [node.name for node in tree.body if isinstance(node, (ast.FunctionDef, ast.ClassDef))]
+            bound += [alias.name for node in tree.body if isinstance(node, ast.ImportFrom) for alias in node.names]
+            self.assertEqual(len(bound), len(set(bound)), name)
+            for node in ast.walk(tree):
+                if isinstance(node, (ast.Subscript, ast.Attribute)) and isinstance(node.ctx, ast.Store):
+                    self.assertIsInstance(node.value, (ast.Name, ast.Attribute), name)
+                    if isinstance(node.value, ast.Name):
+                        self.assertNotIn(node.value.id, bound, (name, node.lineno))
 
 
 if __name__ == "__main__":
